@@ -1,0 +1,1 @@
+"""Things: what is said of named things, and what is sure by it."""
