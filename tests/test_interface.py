@@ -7,14 +7,22 @@ import sys
 import unittest
 from unittest import mock
 
-from tests.helper import BEGINS, HIGHEST, THING, joined, line, says, tie, unsay
+from tests.helper import (
+    BEGINS, HIGHEST, MODEL, NAMES, THING, WHOLE, apart, joined, line, says, sure, tie, unsay, untie, who)
 from thingssaid.house import answers
 
 CALLS = joined([
-    THING, line([2, 0], [6, 0, 2, 1]), says(0, 5, 2, 0), says(1, 0), tie(0, 0, 0), tie(2, 0, 0), unsay(0), unsay(0),
-    line([8]), BEGINS, THING, THING, says(1, 7, 1, 2, 3), says(HIGHEST, 2, 3), tie(1, 1, 0), unsay(HIGHEST), unsay(0),
+    THING, line([2, 0], [6, 0, 2, 1]), says(0, 5, 2, 0), says(1, 0), tie(0, 0, 0), tie(2, 0, 0), WHOLE, NAMES,
+    unsay(0), unsay(0), line([8]), says(0, 2, 0), sure(0, 6, 0, 0), sure(1, 0), who(2, 0), MODEL, untie(0), untie(0),
+    BEGINS, THING, THING, says(1, 7, 1, 2, 3), says(HIGHEST, 2, 3), tie(1, 1, 0), unsay(HIGHEST), who(2, 3), MODEL,
+    says(0, 5, 2, 3), WHOLE, NAMES, MODEL, unsay(0),
 ])
-ANSWERED = [0, 0, 0, -2, 0, -1, 0, -2, -1, 0, 0, 1, 0, -2, 0, -2, 0]
+ANSWERED = [
+    [0], [0], [0], [-2], [0], [-1], [1], [1, 0, 1, 1, 1],
+    [0], [-2], [-1], [0], [2], [-2], [1, 0], [2, 1, 2, 0, 0, 0, 1, 2, 0], [0], [-2],
+    [0], [0], [1], [0], [-2], [0], [-2], [1, 0], [3, 8, 1, 1, 2, 0, 1, 1, 0, 0, 1, 1, 2],
+    [1], [0], [-6], [-6], [1],
+]
 
 
 class Watched(list):
@@ -48,7 +56,8 @@ def calls_within_one_another(calls):
 
 class Answers(unittest.TestCase):
     def test_how_many_then_these(self):
-        self.assertEqual(answers(list(CALLS)), [number for answer in ANSWERED for number in (1, answer)])
+        told = [[len(answer)] + answer for answer in ANSWERED]
+        self.assertEqual(answers(list(CALLS)), joined(told))
 
     def test_a_list_of_whole_numbers(self):
         told = answers(list(CALLS))
@@ -74,6 +83,16 @@ class Answers(unittest.TestCase):
         self.assertEqual(answers([2]), [1, 0])
         self.assertEqual(answers([5, 0]), [1, -2])
         self.assertEqual(answers([3, 0, 1, 0]), [1, -2])
+        self.assertEqual(answers([6, 0]), [1, -2])
+        self.assertEqual(answers([1, 2, 0, 1, 7]), [1, 0, 1, 0])
+        self.assertEqual(answers([7]), [1, 1])
+        self.assertEqual(answers([11]), [3, 1, 0, 0])
+
+    def test_asked_twice_in_one_list(self):
+        asked = [WHOLE, sure(0, 6, 1, 0), who(7, 1, 2, 3), MODEL]
+        told = apart(answers(joined([THING, says(0, 7, 1, 2, 3), tie(1, 0, 0)] + asked + asked)))
+        self.assertEqual(told[3:7], [[1], [2], [1, 0], [1, 8, 1, 1, 0]])
+        self.assertEqual(told[7:], told[3:7])
 
     def test_what_is_given_back_is_not_kept(self):
         first = answers(list(CALLS))
@@ -93,13 +112,16 @@ class Answers(unittest.TestCase):
                 mock.patch.object(builtins, "open", side_effect=refused), \
                 mock.patch.object(builtins, "input", side_effect=refused):
             told = answers(list(CALLS))
-        self.assertEqual(told[1::2], ANSWERED)
+        self.assertEqual(apart(told), ANSWERED)
 
     def test_long_lists_and_deep_concepts_are_gone_through_by_loops(self):
-        short = joined([THING, says(0, 5, 0), line([5, 2, 0], [0]), unsay(0)])
-        deep = [says(0, *[5] * 29, 0), says(0, *[3] * 14, *[0] * 15), line([5] * 27 + [2, 0], [0]),
+        short = joined([THING, says(0, 5, 0), line([5, 2, 0], [0]), unsay(0), sure(0, 6, 0, 2, 0), who(5, 0), MODEL])
+        deep = [says(0, *[5] * 28, 0), says(0, *[3] * 14, *[0] * 15), line([5] * 27 + [2, 0], [0]),
                 says(0, *[6, 0] * 14, 0), unsay(0)]
-        long = joined([THING] + deep * 11)
+        asked = [sure(0, *[5] * 28, 2, 1), sure(0, *[3] * 14, *[0] * 15), sure(0, *[6, 0] * 3, 2, 1),
+                 who(*[4] * 14, *[1] * 15), MODEL, WHOLE]
+        long = joined([THING] + deep * 10 + [unsay(0)] + asked)
+        self.assertEqual([answer[0] for answer in apart(answers(long))][-6:], [1, 2, 1, 0, 1, 1])
         self.assertEqual(calls_within_one_another(long), calls_within_one_another(short))
 
 

@@ -65,6 +65,17 @@ def bound_names(tree):
             yield node.name
 
 
+def imports(tree):
+    """Each name that a file draws from another one, and from which."""
+    return {alias.name: node.module.split(".")[-1] for node in tree.body if isinstance(node, ast.ImportFrom)
+            for alias in node.names}
+
+
+def defined_at_top(tree):
+    return [node.targets[0].id if isinstance(node, ast.Assign) else node.name for node in tree.body
+            if isinstance(node, (ast.Assign, ast.FunctionDef, ast.ClassDef))]
+
+
 class Language(unittest.TestCase):
     def test_files(self):
         self.assertIn("__init__.py", [path.name for path in FILES])
@@ -142,6 +153,58 @@ class Language(unittest.TestCase):
                     self.assertNotIn(node.attr, NOT_NAMES)
                     if node.attr in OWN_OF_PYTHON:
                         self.assertIn(node.attr, METHODS)
+
+    def test_each_name_once_at_the_top_and_none_hidden_within(self):
+        for tree in TREES:
+            top = defined_at_top(tree) + list(imports(tree))
+            self.assertEqual(len(set(top)), len(top))
+            taken = set(imports(tree)) | {node.name for node in tree.body if isinstance(node, ast.ClassDef)}
+            for node in ast.walk(tree):
+                if isinstance(node, ast.FunctionDef):
+                    inner = {part.arg for part in ast.walk(node) if isinstance(part, ast.arg)} | {
+                        part.id for part in ast.walk(node)
+                        if isinstance(part, ast.Name) and isinstance(part.ctx, ast.Store)}
+                    self.assertEqual(inner & taken, set(), node.name)
+                    self.assertEqual(inner & set(top), set(), node.name)
+
+    def test_what_is_imported_is_defined_there_and_used_and_in_no_ring(self):
+        trees = {path.stem: ast.parse(path.read_text(encoding="ascii")) for path in FILES}
+        done = []
+        while len(done) < len(trees):
+            free = [stem for stem in trees if stem not in done and set(imports(trees[stem]).values()) <= set(done)]
+            self.assertNotEqual(free, [], "files that draw from one another")
+            done += free
+        for tree in trees.values():
+            used = {node.id for node in ast.walk(tree) if isinstance(node, ast.Name)}
+            for name, stem in imports(tree).items():
+                self.assertIn(name, defined_at_top(trees[stem]))
+                self.assertIn(name, used)
+
+    def test_no_name_is_a_method_and_a_value(self):
+        methods, kept = set(), set()
+        for tree in TREES:
+            for node in ast.walk(tree):
+                if isinstance(node, ast.ClassDef):
+                    own = [part.name for part in node.body if isinstance(part, ast.FunctionDef)]
+                    self.assertEqual(len(set(own)), len(own))
+                    methods.update(own)
+                if isinstance(node, ast.Attribute) and isinstance(node.ctx, ast.Store):
+                    kept.add(node.attr)
+        self.assertEqual(methods & kept, set())
+
+    def test_no_power_of_what_is_not_written_out(self):
+        for tree in TREES:
+            for node in ast.walk(tree):
+                if isinstance(node, ast.BinOp) and isinstance(node.op, ast.Pow):
+                    self.assertIsInstance(node.right, ast.Constant)
+
+    def test_walked_at_once(self):
+        for tree in TREES:
+            for node in ast.walk(tree):
+                if isinstance(node, ast.Assign) and isinstance(node.value, ast.Call):
+                    called = node.value.func
+                    name = called.id if isinstance(called, ast.Name) else called.attr
+                    self.assertNotIn(name, ("zip", "enumerate", "reversed", "range", "items", "keys", "values", "set"))
 
     def test_is_stands_beside_none_true_and_false_alone(self):
         for tree in TREES:

@@ -5,6 +5,8 @@ each concept ahead of what is in it. No tree is built: a concept stays the
 piece of the row that it stands in.
 """
 
+EVERYTHING = 0
+NOTHING = 1
 NAME = 2
 BOTH = 3
 EITHER = 4
@@ -74,19 +76,32 @@ def is_just(row, many):
     return at == len(row)
 
 
+def heads(row):
+    """The places at which the concepts of a row begin, also those within one another, from left to right."""
+    places = []
+    at = 0
+    while at < len(row):
+        places.append(at)
+        at = at + head_length(row, at)
+    return places
+
+
+def atom_at(row, at):
+    """The atom that begins at a place: the tuple of the numbers that it is told in."""
+    return tuple(row[at:concept_end(row, at)])
+
+
 def atoms_of(rows):
     """The atoms of rows of concepts, each once, in the order in which they are met.
 
-    An atom is the tuple of the numbers that it is told in: two atoms are
-    the same only if they stand there the same, whatever they mean.
+    Two atoms are the same only if they stand there the same, whatever
+    they mean.
     """
     atoms = []
     for row in rows:
-        at = 0
-        while at < len(row):
+        for at in heads(row):
             if is_atom(row[at]):
-                atom = tuple(row[at:concept_end(row, at)])
+                atom = atom_at(row, at)
                 if atom not in atoms:
                     atoms.append(atom)
-            at = at + head_length(row, at)
     return atoms
